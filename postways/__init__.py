@@ -1,0 +1,1 @@
+"""Through which posts a run of letters can have gone."""

@@ -1,0 +1,148 @@
+"""Runs and odd objects that the tests share, and plain counts by all orders of the events."""
+
+import itertools
+import random
+
+from postways.errors import InvalidRows, NothingToUndo, PostError, Refused
+from postways.runs import Run
+
+EXAMPLE = {
+    "a": [("send", "x", "b"), ("send", "y", "c")],
+    "b": [("take", "x"), ("send", "z", "c")],
+    "c": [("take", "z"), ("take", "y")],
+}
+# x lies, d is idle, e has an empty row but a letter was sent to it, parties and letters share words
+MIXED = {
+    "a": [("send", "x", "b"), ("send", "a", "c")],
+    "b": [("send", "c", "a")],
+    "c": [("take", "a"), ("send", "e", "e")],
+    "d": [],
+    "e": [],
+}
+
+
+def example():
+    return Run(EXAMPLE)
+
+
+def mixed():
+    return Run(MIXED)
+
+
+def deep(wrap, times=40):
+    """An object in which another one is wrapped so many times."""
+    value = "x"
+    for _ in range(times):
+        value = wrap(value)
+    return value
+
+
+def odd_objects():
+    """New objects of every kind that "any object" names."""
+    return [
+        None, True, False, 0, 1, 2, -1, 7, 10 ** 29, -10 ** 29,
+        "", "x", "a", "q", "A", "xA", "x ", " x", "x\n", "\tx", "x1", "x-", "abcdefghi", "send", "take", "~",
+        [], ["x"], ["y", "x"], ["x", "x"], [None], [True], [["x"]], [1, 0], ["x", 1],
+        (), ("x",), ("x", "y"), ("x", "send"), ("x", "take"), ("send", "x", "b"), (1, 2), (True,), ([],),
+        {}, {"x": "y"}, {"a": []}, {"a": ()}, {None: 1, True: [], (1, (2,)): ()}, {1: "x"}, {"x": {"x": {}}},
+        ["x", "send"], [("x", "send")], [["x", "send"]], (("x", "send"),), [("x", "send", "b")], [("x ", "send")],
+        {"a": [("send", "x", "b")], "b": (("take", "x"),)}, {("a",): []}, {"a": [["send", "x", "b"]], "b": []},
+        deep(lambda inner: [inner]), deep(lambda inner: (inner,)), deep(lambda inner: {"x": inner}),
+        deep(lambda inner: [(inner, {"a": inner})], 8), {deep(lambda inner: (inner,)): 1},
+        Run({}), example(), [Run({})], (Run({}), "send"), {"a": Run({})}, [(Run({}), Run({}))],
+        InvalidRows([]), PostError(), NothingToUndo(), [Refused("x")], {Refused("x"): "x"},
+    ]
+
+
+def plain_events(rows):
+    """The ascending list of the events."""
+    return sorted((deed[1], deed[0]) for row in rows.values() for deed in row)
+
+
+def stands_in_order(order, rows):
+    """Whether each row and each letter goes forward in an order of the events."""
+    place = {event: k for k, event in enumerate(order)}
+    for row in rows.values():
+        places = [place[(deed[1], deed[0])] for deed in row]
+        if places != sorted(places):
+            return False
+    return all(place[(letter, "send")] < place[(letter, "take")] for letter, word in order if word == "take")
+
+
+def plain_lines(rows):
+    """The ascending list of all lines, by all orders of the events."""
+    orders = itertools.permutations(plain_events(rows))
+    return [list(order) for order in orders if stands_in_order(order, rows)]
+
+
+def plain_ahead(lines):
+    """The tuples of two events of which the first one stands earlier in every line."""
+    pairs = None
+    for line in lines:
+        found = set(itertools.combinations(line, 2))
+        pairs = found if pairs is None else pairs & found
+    return pairs
+
+
+def plain_fronts(lines):
+    """All beginnings of lines as ascending lists, shorter ones first, those of one length ascending."""
+    begun = {tuple(sorted(line[:k])) for line in lines for k in range(len(line) + 1)}
+    return [list(front) for front in sorted(begun, key=lambda front: (len(front), front))]
+
+
+def chance_rows(chance, parties, letters):
+    """Rows of so many parties and letters, as chance lets them send and take; some letters may lie."""
+    names = "abcdefghij"[:parties]
+    rows, lying, unsent = {name: [] for name in names}, [], list("zyxwvutsrq"[:letters])
+    chance.shuffle(unsent)
+    while unsent or (lying and chance.random() < 0.9):
+        if unsent and (not lying or chance.random() < 0.5):
+            sender, receiver = chance.sample(names, 2)
+            lying.append((unsent.pop(), receiver))
+            rows[sender].append(("send", *lying[-1]))
+        else:
+            letter, receiver = lying.pop(chance.randrange(len(lying)))
+            rows[receiver].append(("take", letter))
+    return rows
+
+
+def small_rows():
+    """Rows of runs with at most six events: chosen ones, then some made by chance that is always the same."""
+    chosen = [
+        {}, {"a": []}, {"a": [], "b": []}, EXAMPLE,
+        {"a": [("send", "x", "b")], "b": []},
+        {"a": [("send", "a", "b")], "b": [("take", "a")]},
+        {"a": [("send", "b", "b"), ("take", "a")], "b": [("send", "a", "a"), ("take", "b")], "c": []},
+        {"a": [("send", "x", "b"), ("send", "y", "c")], "b": [], "c": [("take", "y")]},
+        {"a": [("send", "y", "c"), ("send", "x", "b")], "b": [("take", "x"), ("send", "z", "c")],
+         "c": [("take", "z"), ("take", "y")]},
+        {"a": [("send", "x", "b")], "b": [("take", "x")], "c": [("send", "y", "d")], "d": [("take", "y")]},
+        {"a": [("send", "x", "b"), ("send", "y", "b"), ("send", "z", "b")], "b": []},
+        {"a": [("send", "x", "d")], "b": [("send", "y", "d")], "c": [("send", "z", "d")], "d": []},
+    ]
+    chance = random.Random(7)
+    return chosen + [chance_rows(chance, 2 + k % 3, 1 + k % 3) for k in range(60)]
+
+
+def all_rows_of_two():
+    """All arrangements of the deeds of two letters among two or three parties, rows or not."""
+    for names in ("ab", "abc"):
+        for ends in itertools.product(itertools.permutations(names, 2), repeat=2):
+            for taken in itertools.product((False, True), repeat=2):
+                yield from arranged(names, ends, taken)
+
+
+def arranged(names, ends, taken):
+    """All ways in which each party may have set the deeds of letters x and y one behind the other."""
+    deeds = {name: [] for name in names}
+    for letter, (sender, receiver), goes in zip("xy", ends, taken):
+        deeds[sender].append(("send", letter, receiver))
+        if goes:
+            deeds[receiver].append(("take", letter))
+    for rows in itertools.product(*[itertools.permutations(deeds[name]) for name in names]):
+        yield {name: list(row) for name, row in zip(names, rows)}
+
+
+def not_runs():
+    """New odd objects that are no runs."""
+    return [value for value in odd_objects() if not isinstance(value, Run)]

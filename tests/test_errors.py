@@ -1,0 +1,79 @@
+"""[5]: the errors, of what they are made and what they keep; [1], [2]: names as the interface lists them."""
+
+import inspect
+import unittest
+
+from postways import ahead, errors, lines, runs
+from tests.samples import odd_objects
+
+WITH_VALUE = """InvalidRows InvalidRun InvalidLetter InvalidLetters InvalidParty InvalidNames InvalidEvent
+InvalidEvents InvalidFront InvalidLine InvalidNumber InvalidKind InvalidPlace InvalidMake InvalidLane InvalidSlots
+InvalidLog InvalidRuns InvalidPieces InvalidWays InvalidPlan InvalidWay InvalidDesk InvalidRecord InvalidScript
+InvalidText Lies Refused""".split()
+WITHOUT = ["NothingToUndo", "NothingToRedo"]
+
+FUNCTIONS = {
+    runs: """is_rows(value) sender_of(run,letter) receiver_of(run,letter) lies(run,letter) lying(run)
+        lane(run,party,other) kept(run,letters) is_kept_of(one,other) called(run,names) moved(run,names) named(run)
+        busy(run) are_alike(one,other) turned_back(run)""",
+    ahead: """events(run) is_ahead(run,one,other) all_ahead(run,event) are_beside(run,one,other)
+        all_beside(run,event) is_front(run,value) fronts(run) many_fronts(run) least_front(run,events)
+        may_come(run,front) heard_of(run,party)""",
+    lines: """is_line(run,value) many_lines(run) first_line(run) line_at(run,number) number_of(run,line)
+        lying_along(run,line) apart(run,one,other) swapped(run,line,place)""",
+}
+
+
+class Errors(unittest.TestCase):
+    def test_all_derive_from_the_base_and_from_no_other_one(self):
+        self.assertEqual(errors.PostError.__bases__, (ValueError,))
+        for name in WITH_VALUE + WITHOUT:
+            error = getattr(errors, name)
+            self.assertEqual(error.__bases__, (errors.PostError,), name)
+            self.assertEqual((error.__name__, error.__module__), (name, "postways.errors"))
+
+    def test_there_are_no_others(self):
+        found = [name for name, _ in inspect.getmembers(errors, inspect.isclass)]
+        self.assertEqual(found, sorted(WITH_VALUE + WITHOUT + ["PostError"]))
+
+    def test_the_very_value_is_kept(self):
+        for name in WITH_VALUE:
+            error = getattr(errors, name)
+            for value in odd_objects():
+                self.assertIs(error(value).value, value)
+                self.assertIs(error(value=value).value, value)
+            self.assertIsNone(error().value)
+            self.assertRaises(TypeError, error, 1, 2)
+
+    def test_three_are_made_of_nothing(self):
+        for error in (errors.PostError, errors.NothingToUndo, errors.NothingToRedo):
+            self.assertFalse(hasattr(error(), "value"))
+            self.assertRaises(TypeError, error, 1)
+
+    def test_they_are_caught_by_their_bases(self):
+        for name in WITH_VALUE + WITHOUT:
+            for base in (ValueError, errors.PostError, getattr(errors, name)):
+                with self.assertRaises(base):
+                    raise getattr(errors, name)()
+
+
+class Names(unittest.TestCase):
+    def test_functions_stand_in_their_modules_with_their_parameters(self):
+        for module, text in FUNCTIONS.items():
+            for entry in text.split():
+                name, _, parameters = entry.rstrip(")").partition("(")
+                function = getattr(module, name)
+                self.assertTrue(inspect.isfunction(function), name)
+                self.assertEqual(function.__module__, module.__name__)
+                self.assertEqual(list(inspect.signature(function).parameters), parameters.split(","), name)
+
+    def test_the_class_of_runs_has_its_methods_itself(self):
+        self.assertEqual(runs.Run.__module__, "postways.runs")
+        self.assertEqual(list(inspect.signature(runs.Run).parameters), ["rows"])
+        for name in ("rows", "parties", "letters"):
+            self.assertIn(name, vars(runs.Run))
+            self.assertEqual(list(inspect.signature(vars(runs.Run)[name]).parameters), ["self"])
+
+
+if __name__ == "__main__":
+    unittest.main()
