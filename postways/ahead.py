@@ -16,7 +16,11 @@ def bits_ahead(run):
     Some events of a run are kept as one number, with bit k for the k-th event,
     because numbers are united and compared at once and may be keys.
     """
-    straight = straight_ahead(run.rows())
+    return bits_over(straight_ahead(run.rows()))
+
+
+def bits_over(straight):
+    """For each event, ascending, those from which one comes to it over such as are straight ahead, as bits."""
     known = sorted(straight)
     bit = {event: 1 << k for k, event in enumerate(known)}
     found = {}

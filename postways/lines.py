@@ -51,13 +51,17 @@ def first_line(run):
     """The least line."""
     check_run(run)
     known = known_events(run)
-    ahead = bits_ahead(run)
-    line, front = [], 0
-    while len(line) < len(known):
+    return [known[step] for step in least_order(bits_ahead(run))]
+
+
+def least_order(ahead):
+    """The list of all positions, in which always the least one that may come stands next."""
+    order, front = [], 0
+    while len(order) < len(ahead):
         step = next_steps(front, ahead)[0]
-        line.append(known[step])
+        order.append(step)
         front = front | (1 << step)
-    return line
+    return order
 
 
 def line_at(run, number):

@@ -125,6 +125,13 @@ def check_run(value):
         raise InvalidRun(value)
 
 
+def check_all_taken(value):
+    """Raises InvalidRun unless any object is a run, and Lies if a letter of it lies."""
+    check_run(value)
+    if lying(value):
+        raise Lies(value)
+
+
 def check_letter(run, value):
     """Raises InvalidLetter unless any object is a letter of a run."""
     if value not in run.letters():
@@ -206,10 +213,15 @@ def called(run, names):
     """The run with its letters called otherwise."""
     check_run(run)
     check_names(run.letters(), names)
-    rows = {}
-    for party, row in run.rows().items():
-        rows[party] = [(deed[0], names[deed[1]], *deed[2:]) for deed in row]
-    return Run(rows)
+    return Run(with_names(run.rows(), names))
+
+
+def with_names(rows, names):
+    """Rows with their letters called otherwise."""
+    found = {}
+    for party, row in rows.items():
+        found[party] = [(deed[0], names[deed[1]], *deed[2:]) for deed in row]
+    return found
 
 
 def moved(run, names):
@@ -255,9 +267,7 @@ def are_alike(one, other):
 
 def turned_back(run):
     """The run with all rows turned about: each letter goes back from its receiver to its sender."""
-    check_run(run)
-    if lying(run):
-        raise Lies(run)
+    check_all_taken(run)
     ways = ways_of(run.rows())
     return Run({party: [turned_deed(deed, ways) for deed in row[::-1]] for party, row in run.rows().items()})
 

@@ -4,7 +4,7 @@ import itertools
 import random
 
 from postways.errors import InvalidRows, NothingToUndo, PostError, Refused
-from postways.runs import Run
+from postways.runs import Run, is_rows
 
 EXAMPLE = {
     "a": [("send", "x", "b"), ("send", "y", "c")],
@@ -19,6 +19,35 @@ MIXED = {
     "d": [],
     "e": [],
 }
+
+
+# x goes round by b and is late behind what b sends then
+LATE = {
+    "a": [("send", "y", "c"), ("send", "x", "b")],
+    "b": [("take", "x"), ("send", "z", "c")],
+    "c": [("take", "z"), ("take", "y")],
+}
+# x lies, though what was sent behind it is taken
+HELD = {"a": [("send", "x", "b"), ("send", "y", "c")], "b": [], "c": [("take", "y")]}
+# of "outbox", not of "belt"
+KNOT = {
+    "a": [("take", "p"), ("send", "q", "b")],
+    "b": [("send", "r", "c"), ("send", "p", "a"), ("take", "q"), ("take", "s")],
+    "c": [("send", "s", "b"), ("take", "r")],
+}
+# of "causal", not of "box": both receivers take first what the other one's first sender sent last
+CROSSING = {
+    "c": [("take", "w"), ("take", "x")],
+    "d": [("take", "y"), ("take", "z")],
+    "p": [("send", "x", "c"), ("send", "y", "d")],
+    "q": [("send", "z", "d"), ("send", "w", "c")],
+}
+# each sends ahead of its take
+CROSSED = {"a": [("send", "x", "b"), ("take", "y")], "b": [("send", "y", "a"), ("take", "x")]}
+# of no kind: the second one of a lane is taken first
+SWAPPED = {"a": [("send", "x", "b"), ("send", "y", "b")], "b": [("take", "y"), ("take", "x")]}
+# x lies, and what was sent behind it in its lane is taken
+LOST = {"a": [("send", "x", "b"), ("send", "y", "b")], "b": [("take", "y")]}
 
 
 def example():
@@ -75,6 +104,22 @@ def plain_lines(rows):
     return [list(order) for order in orders if stands_in_order(order, rows)]
 
 
+def lines_by_steps(rows):
+    """The ascending list of all lines of runs of more events, made by letting each party do its next deed."""
+    many = sum(map(len, rows.values()))
+    begun = [((), tuple(0 for _ in rows))]
+    for _ in range(many):
+        further = []
+        for line, done in begun:
+            for k, (row, at) in enumerate(zip(rows.values(), done)):
+                if at < len(row):
+                    word, letter = row[at][:2]
+                    if word == "send" or (letter, "send") in line:
+                        further.append((line + ((letter, word),), done[:k] + (at + 1,) + done[k + 1:]))
+        begun = further
+    return sorted(list(line) for line, _ in begun)
+
+
 def plain_ahead(lines):
     """The tuples of two events of which the first one stands earlier in every line."""
     pairs = None
@@ -106,6 +151,14 @@ def chance_rows(chance, parties, letters):
     return rows
 
 
+def chance_taken(chance, parties, letters):
+    """Rows of so many parties and letters, in which nothing lies, as chance makes them."""
+    while True:
+        rows = chance_rows(chance, parties, letters)
+        if sum(map(len, rows.values())) == 2 * letters:
+            return rows
+
+
 def small_rows():
     """Rows of runs with at most six events: chosen ones, then some made by chance that is always the same."""
     chosen = [
@@ -119,6 +172,7 @@ def small_rows():
         {"a": [("send", "x", "b")], "b": [("take", "x")], "c": [("send", "y", "d")], "d": [("take", "y")]},
         {"a": [("send", "x", "b"), ("send", "y", "b"), ("send", "z", "b")], "b": []},
         {"a": [("send", "x", "d")], "b": [("send", "y", "d")], "c": [("send", "z", "d")], "d": []},
+        CROSSED, SWAPPED, LOST,
     ]
     chance = random.Random(7)
     return chosen + [chance_rows(chance, 2 + k % 3, 1 + k % 3) for k in range(60)]
@@ -141,6 +195,16 @@ def arranged(names, ends, taken):
             deeds[receiver].append(("take", letter))
     for rows in itertools.product(*[itertools.permutations(deeds[name]) for name in names]):
         yield {name: list(row) for name, row in zip(names, rows)}
+
+
+def all_runs_of_two():
+    """All runs of two letters among two or three parties."""
+    return [Run(rows) for rows in all_rows_of_two() if is_rows(rows)]
+
+
+def all_parts(members):
+    """All ascending lists of some members of an ascending list."""
+    return [list(some) for many in range(len(members) + 1) for some in itertools.combinations(members, many)]
 
 
 def not_runs():

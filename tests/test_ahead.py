@@ -8,8 +8,8 @@ from postways.ahead import (all_ahead, all_beside, are_beside, events, fronts, h
 from postways.errors import InvalidEvent, InvalidEvents, InvalidFront, InvalidParty, InvalidRun
 from postways.runs import Run
 from tests.calls import Call, CallCase, call_of, odd_but
-from tests.samples import (EXAMPLE, MIXED, example, mixed, plain_ahead, plain_events, plain_fronts, plain_lines,
-                           small_rows)
+from tests.samples import (EXAMPLE, MIXED, all_parts, example, mixed, plain_ahead, plain_events, plain_fronts,
+                           plain_lines, small_rows)
 
 SENT, TAKEN = ("x", "send"), ("x", "take")
 RUN = ("run", example, InvalidRun)
@@ -151,11 +151,6 @@ class SmallRuns(unittest.TestCase):
                 heard = [letter for letter, word in events(run) if word == "send" and
                          ((letter, word) in own or any(((letter, word), event) in pairs for event in own))]
                 self.assertEqual(heard_of(run, party), heard)
-
-
-def all_parts(members):
-    """All ascending lists of some members of an ascending list."""
-    return [list(some) for many in range(len(members) + 1) for some in itertools.combinations(members, many)]
 
 
 class Edges(unittest.TestCase):

@@ -3,7 +3,7 @@
 import inspect
 import unittest
 
-from postways import ahead, errors, lines, runs
+from postways import ahead, errors, kinds, lines, runs
 from tests.samples import odd_objects
 
 WITH_VALUE = """InvalidRows InvalidRun InvalidLetter InvalidLetters InvalidParty InvalidNames InvalidEvent
@@ -21,6 +21,9 @@ FUNCTIONS = {
         may_come(run,front) heard_of(run,party)""",
     lines: """is_line(run,value) many_lines(run) first_line(run) line_at(run,number) number_of(run,line)
         lying_along(run,line) apart(run,one,other) swapped(run,line,place)""",
+    kinds: """serves(run,kind,line) out_of_order(run,kind,line) is_of(run,kind) kinds_of(run) least_kind(run)
+        line_for(run,kind) is_line_for(run,kind,value) many_lines_for(run,kind) always_ahead(run,kind,one,other)
+        kinds_kept(run,letters)""",
 }
 
 
