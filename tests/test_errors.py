@@ -3,7 +3,7 @@
 import inspect
 import unittest
 
-from postways import ahead, errors, kinds, lines, runs
+from postways import ahead, errors, kinds, lines, primes, products, rings, runs
 from tests.samples import odd_objects
 
 WITH_VALUE = """InvalidRows InvalidRun InvalidLetter InvalidLetters InvalidParty InvalidNames InvalidEvent
@@ -24,6 +24,12 @@ FUNCTIONS = {
     kinds: """serves(run,kind,line) out_of_order(run,kind,line) is_of(run,kind) kinds_of(run) least_kind(run)
         line_for(run,kind) is_line_for(run,kind,value) many_lines_for(run,kind) always_ahead(run,kind,one,other)
         kinds_kept(run,letters)""",
+    rings: """moments(run) arrows_of(run,kind) goes_to(run,kind,moment) ring_for(run,kind) is_ring_for(run,kind,value)
+        least_ring(run,kind) reasons_for(run) are_reasons(run,value) crown(many) detour(many) crossing(many)""",
+    primes: """behind(one,other) is_prime(run) lots_of(run) primes_of(run) are_primes(run,value) web_of(run)
+        many_orders(run) are_together(run,one,other) prime_kinds(run) longest_prime(run)""",
+    products: """is_start_of(one,run) rest_behind(one,run) common_start(one,other) common_whole(one,other)
+        commute(one,other) power(run,many) root_of(run)""",
 }
 
 
@@ -61,6 +67,9 @@ class Errors(unittest.TestCase):
 
 
 class Names(unittest.TestCase):
+    def test_the_kinds_stand_in_their_module(self):
+        self.assertEqual(kinds.KINDS, ("lanes", "causal", "box", "outbox", "belt", "hand"))
+
     def test_functions_stand_in_their_modules_with_their_parameters(self):
         for module, text in FUNCTIONS.items():
             for entry in text.split():
