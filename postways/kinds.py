@@ -1,8 +1,8 @@
 """Kinds of posts: which lines serve them, and which runs are of them."""
 
 from postways.ahead import check_event, known_events, next_steps
-from postways.arrows import are_tied, belt_causes, belt_steps, bits_among, ends_of, has_ring, reached, steps_ahead
-from postways.arrows import steps_for, with_arrows
+from postways.arrows import are_tied, belt_causes, belt_steps, bits_among, has_ring, reached, steps_ahead, steps_for
+from postways.arrows import with_arrows
 from postways.errors import InvalidKind, Refused
 from postways.lines import check_line, is_line, least_order, ways_on
 from postways.runs import check_run, kept, ways_of

@@ -115,6 +115,20 @@ class CallCase(unittest.TestCase):
         self.assertEqual(shown(call.function(**dict(zip(call.names, call.good())))), expected)
 
 
+class EachCall:
+    """Tests of all calls of a module, for a case that tells them and, for each error, odd objects that are good."""
+
+    calls = []
+    good = {}
+
+    def test_wrong_arguments(self):
+        self.check_odd_objects(self.calls, self.good)
+
+    def test_nothing_is_shared_and_nothing_passed_is_changed(self):
+        for call in self.calls:
+            self.check_shares_nothing(call)
+
+
 def call_of(calls, function):
     """The call of a function among some calls."""
     return next(call for call in calls if call.function is function)

@@ -58,6 +58,12 @@ def mixed():
     return Run(MIXED)
 
 
+def chain(many):
+    """A run of so many letters from a to b, each taken at once; called la, lb, .., then ma, mb, .."""
+    names = [head + tail for head in "lm" for tail in "abcdefghijklmnopqrstuvwxyz"][:many]
+    return Run({"a": [("send", name, "b") for name in names], "b": [("take", name) for name in names]})
+
+
 def deep(wrap, times=40):
     """An object in which another one is wrapped so many times."""
     value = "x"

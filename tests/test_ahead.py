@@ -7,7 +7,7 @@ from postways.ahead import (all_ahead, all_beside, are_beside, events, fronts, h
                             least_front, many_fronts, may_come)
 from postways.errors import InvalidEvent, InvalidEvents, InvalidFront, InvalidParty, InvalidRun
 from postways.runs import Run
-from tests.calls import Call, CallCase, call_of, odd_but
+from tests.calls import Call, CallCase, EachCall, call_of, odd_but
 from tests.samples import (EXAMPLE, MIXED, all_parts, example, mixed, plain_ahead, plain_events, plain_fronts,
                            plain_lines, small_rows)
 
@@ -51,13 +51,8 @@ class Examples(unittest.TestCase):
             [10, [('x', 'send'), ('x', 'take'), ('z', 'send')], [('x', 'take'), ('y', 'send')], False, ['x', 'z']])
 
 
-class Wrong(CallCase):
-    def test_wrong_arguments(self):
-        self.check_odd_objects(CALLS, GOOD)
-
-    def test_nothing_is_shared_and_nothing_passed_is_changed(self):
-        for call in CALLS:
-            self.check_shares_nothing(call)
+class Wrong(EachCall, CallCase):
+    calls, good = CALLS, GOOD
 
     def test_events_that_are_none(self):
         for call in CALLS:

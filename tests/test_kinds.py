@@ -10,7 +10,7 @@ from postways.kinds import (KINDS, always_ahead, is_line_for, is_of, kinds_kept,
                             many_lines_for, out_of_order, serves)
 from postways.lines import first_line
 from postways.runs import Run, kept, lying, turned_back
-from tests.calls import Call, CallCase, call_of, odd_but
+from tests.calls import Call, CallCase, EachCall, call_of, odd_but
 from tests.counts import Counted
 from tests.samples import (CROSSED, CROSSING, EXAMPLE, HELD, KNOT, LATE, LOST, MIXED, SWAPPED, all_parts,
                            all_runs_of_two, chance_rows, example, small_rows)
@@ -67,13 +67,10 @@ class Examples(unittest.TestCase):
         self.assertIs(type(kinds.KINDS), tuple)
 
 
-class Wrong(CallCase):
-    def test_wrong_arguments(self):
-        self.check_odd_objects(CALLS, GOOD)
+class Wrong(EachCall, CallCase):
+    calls, good = CALLS, GOOD
 
-    def test_nothing_is_shared_and_nothing_passed_is_changed(self):
-        for call in CALLS:
-            self.check_shares_nothing(call)
+    def test_nothing_is_shared_for_any_kind(self):
         for kind in KINDS:
             for function in (line_for, many_lines_for):
                 self.check_shares_nothing(Call(function, RUN, ("kind", lambda: kind, InvalidKind)))

@@ -5,9 +5,11 @@ import random
 import time
 import unittest
 
-from postways import ahead, lines, runs
+from postways import ahead, kinds, lines, primes, products, rings, runs
+from postways.kinds import KINDS
+from postways.rings import crossing, crown, detour
 from postways.runs import Run
-from tests.samples import chance_rows
+from tests.samples import chain, chance_rows, chance_taken
 
 SECONDS = 5
 PARTIES = "abcdefgh"
@@ -46,7 +48,17 @@ def thirty():
         yield Run(rows)
 
 
-class Limits(unittest.TestCase):
+def full():
+    """Runs of eight letters: chosen ones, most of whose events are beside one another, then some made by chance."""
+    fan = Run({**{party: [("send", party, "h")] for party in "abcdefg"}, "h": [("take", party) for party in "gfedcba"]})
+    hall = Run({"a": [("send", letter, "b") for letter in "stuvwxyz"],
+                "b": [("take", letter) for letter in "zyxwvuts"]})
+    chance = random.Random(13)
+    return [round_about(8), pairs(), all_lie(), fan, hall, *[Run(chance_rows(chance, 8, 8)) for _ in range(5)],
+            *[Run(chance_rows(chance, 3, 8)) for _ in range(3)]]
+
+
+class Case(unittest.TestCase):
     def in_time(self, function, *arguments):
         """What a call returns, if it does within some seconds."""
         begun = time.monotonic()
@@ -54,6 +66,8 @@ class Limits(unittest.TestCase):
         self.assertLess(time.monotonic() - begun, SECONDS, function.__name__)
         return outcome
 
+
+class Limits(Case):
     def test_runs_of_thirty_letters(self):
         for run in thirty():
             letters, parties = run.letters(), run.parties()
@@ -112,6 +126,90 @@ class Limits(unittest.TestCase):
         self.assertEqual(lines.many_lines(all_lie()), 40320)
         # the four events of each pair come in one order, so only the pairs are mixed
         self.assertEqual(lines.many_lines(pairs()), math.factorial(16) // math.factorial(4) ** 4)
+
+    def test_kinds_and_rings(self):
+        for run in [*full(), crown(9), detour(8), crossing(4)]:
+            moments, events = self.in_time(rings.moments, run), ahead.events(run)
+            first = lines.first_line(run)
+            found = self.in_time(kinds.kinds_of, run)
+            self.assertEqual(self.in_time(kinds.least_kind, run), found[-1] if found else None)
+            self.assertIn(self.in_time(kinds.kinds_kept, run, run.letters()[1:])[:len(found)], [found])
+            for kind in KINDS:
+                self.assertIs(self.in_time(kinds.is_of, run, kind), kind in found)
+                self.assertIs(self.in_time(kinds.serves, run, kind, first),
+                              self.in_time(kinds.out_of_order, run, kind, first) == [])
+                self.in_time(rings.arrows_of, run, kind)
+                self.in_time(rings.goes_to, run, kind, moments[0])
+                line, ring = self.in_time(kinds.line_for, run, kind), self.in_time(rings.ring_for, run, kind)
+                least = self.in_time(rings.least_ring, run, kind)
+                if kind in found:
+                    self.assertIs(self.in_time(kinds.is_line_for, run, kind, line), True)
+                    self.in_time(kinds.always_ahead, run, kind, events[0], events[-1])
+                    self.assertEqual([ring, least], [None, None])
+                else:
+                    self.assertIs(self.in_time(rings.is_ring_for, run, kind, ring), True)
+                    self.assertEqual([line, least], [None, len(ring)])
+            reasons = self.in_time(rings.reasons_for, run)
+            if reasons is not None:
+                self.assertIs(self.in_time(rings.are_reasons, run, reasons), True)
+
+    def test_lines_counted_by_kinds(self):
+        for run in full():
+            for kind in KINDS:
+                many = self.in_time(kinds.many_lines_for, run, kind)
+                self.assertIs(many > 0, kinds.is_of(run, kind))
+        # the sends may come in any order, and the takes come as the sends
+        self.assertEqual(kinds.many_lines_for(all_lie(), "belt"), 40320)
+        self.assertEqual(kinds.many_lines_for(round_about(8), "lanes"), lines.many_lines(round_about(8)))
+
+    def test_makes(self):
+        for many in range(2, 26):
+            for make, letters in ((crown, many), (detour, many + 1), (crossing, 2 * many)):
+                self.assertEqual(len(self.in_time(make, many).letters()), letters)
+
+    def test_primes(self):
+        chance = random.Random(17)
+        apart = Run({**{party: [("send", party, other)] for party, other in zip("abcd", "efgh")},
+                     **{other: [("take", party)] for party, other in zip("abcd", "efgh")}})
+        for run in [crown(8), apart, products.power(apart, 2), chain(8),
+                    *[Run(chance_taken(chance, 8, 8)) for _ in range(8)]]:
+            letters, lots = run.letters(), self.in_time(primes.lots_of, run)
+            parts = self.in_time(primes.primes_of, run)
+            self.assertIs(self.in_time(primes.are_primes, run, parts), True)
+            self.assertIs(self.in_time(primes.is_prime, run), len(lots) == 1)
+            self.assertEqual(self.in_time(primes.longest_prime, run), max(map(len, lots)))
+            self.assertIs(self.in_time(primes.are_together, run, letters[0], letters[-1]),
+                          any(letters[0] in lot and letters[-1] in lot for lot in lots))
+            self.assertEqual(len(self.in_time(primes.prime_kinds, run)), len(lots))
+            self.assertLess(len(self.in_time(primes.web_of, run)), 64)
+            self.assertGreater(self.in_time(primes.many_orders, run), 0)
+            whole = self.in_time(primes.behind, run, runs.called(run, {word: "t" + word for word in letters}))
+            self.assertEqual(len(whole.letters()), 2 * len(letters))
+
+    def test_products(self):
+        chance = random.Random(19)
+        made = [crown(8), crown(4), chain(8), *[Run(chance_taken(chance, 8, 8)) for _ in range(4)]]
+        for one in made:
+            for other in made:
+                start = self.in_time(products.common_start, one, other)
+                self.assertIs(self.in_time(products.is_start_of, start, other), True)
+                self.in_time(products.rest_behind, start, other)
+                self.in_time(products.common_whole, one, other)
+                self.assertIs(self.in_time(products.commute, one, other),
+                              self.in_time(products.commute, other, one))
+            self.assertEqual(self.in_time(products.root_of, one)[1], 8 if one == chain(8) else 1)
+
+    def test_powers_of_twenty_six_letters(self):
+        for run, many in ((chain(1), 26), (crown(2), 13), (crown(13), 2), (crown(8), 3), (chain(26), 1)):
+            whole, letters = self.in_time(products.power, run, many), len(run.letters())
+            self.assertEqual(len(whole.letters()), many * letters)
+            root = (run, many) if many > 1 else (chain(1), 26)
+            self.assertEqual(self.in_time(products.root_of, whole), (runs.named(root[0]), root[1]))
+            self.assertIs(self.in_time(products.is_start_of, run, whole), True)
+            self.assertEqual(len(self.in_time(products.rest_behind, run, whole).letters()), (many - 1) * letters)
+            self.assertIs(self.in_time(products.commute, run, whole), True)
+            self.assertEqual(self.in_time(products.common_start, whole, run), runs.named(run))
+            self.assertEqual(self.in_time(products.common_whole, whole, run), whole)
 
 
 if __name__ == "__main__":

@@ -9,7 +9,7 @@ from postways.ahead import are_beside, events
 from postways.errors import InvalidLine, InvalidNumber, InvalidPlace, InvalidRun, Refused
 from postways.lines import apart, first_line, is_line, line_at, lying_along, many_lines, number_of, swapped
 from postways.runs import Run
-from tests.calls import Call, CallCase, call_of, odd_but
+from tests.calls import Call, CallCase, EachCall, call_of, odd_but
 from tests.samples import EXAMPLE, MIXED, chance_rows, example, mixed, plain_lines, small_rows
 
 FIRST = [("x", "send"), ("x", "take"), ("y", "send"), ("z", "send"), ("z", "take"), ("y", "take")]
@@ -47,13 +47,8 @@ class Examples(unittest.TestCase):
             [2, 3, False])
 
 
-class Wrong(CallCase):
-    def test_wrong_arguments(self):
-        self.check_odd_objects(CALLS, GOOD)
-
-    def test_nothing_is_shared_and_nothing_passed_is_changed(self):
-        for call in CALLS:
-            self.check_shares_nothing(call)
+class Wrong(EachCall, CallCase):
+    calls, good = CALLS, GOOD
 
     def test_lists_that_are_no_lines(self):
         other = FIRST[2]

@@ -10,7 +10,7 @@ from postways.primes import (are_primes, are_together, behind, is_prime, longest
                              prime_kinds, primes_of, web_of)
 from postways.rings import crossing, crown, detour
 from postways.runs import Run, busy, called, kept, lying, moved
-from tests.calls import Call, CallCase, call_of, odd_but
+from tests.calls import Call, CallCase, EachCall, call_of, odd_but
 from tests.counts import closed
 from tests.samples import (CROSSED, EXAMPLE, HELD, LATE, MIXED, SWAPPED, all_parts, all_runs_of_two, chance_taken,
                            example, mixed, plain_ahead, lines_by_steps, small_rows)
@@ -37,12 +37,6 @@ CALLS = [Call(behind, ("one", example, InvalidRun), ("other", lambda: crown(3), 
 GOOD = {InvalidLetter: ["x"]}
 
 
-def talk():
-    """The run of the document's example of section 8."""
-    first = behind(crown(2), called(example(), {"x": "p", "y": "q", "z": "r"}))
-    return behind(first, moved(called(crown(2), {"a": "u", "b": "v"}), {"a": "d", "b": "e"}))
-
-
 class Examples(unittest.TestCase):
     def test_the_block_of_the_document(self):
         run = Run({"a": [("send", "x", "b"), ("send", "y", "c")], "b": [("take", "x"), ("send", "z", "c")],
@@ -60,13 +54,10 @@ class Examples(unittest.TestCase):
             [False, True, {'a': [('send', 'x', 'b')], 'b': [('take', 'x')]}, False, 'belt'])
 
 
-class Wrong(CallCase):
-    def test_wrong_arguments(self):
-        self.check_odd_objects(CALLS, GOOD)
+class Wrong(EachCall, CallCase):
+    calls, good = CALLS, GOOD
 
-    def test_nothing_is_shared_and_nothing_passed_is_changed(self):
-        for call in CALLS:
-            self.check_shares_nothing(call)
+    def test_nothing_is_shared_where_letters_lie(self):
         self.check_shares_nothing(Call(behind, ("one", mixed, InvalidRun), ("other", crown_of_two, InvalidRun)))
 
     def test_runs_in_which_a_letter_lies(self):

@@ -9,8 +9,8 @@ from postways.primes import behind, primes_of
 from postways.products import common_start, common_whole, commute, is_start_of, power, rest_behind, root_of
 from postways.rings import crown
 from postways.runs import Run, are_alike, busy, called, kept, moved, named
-from tests.calls import Call, CallCase, call_of
-from tests.samples import EXAMPLE, HELD, MIXED, all_parts, chance_taken, example
+from tests.calls import Call, CallCase, EachCall, call_of
+from tests.samples import EXAMPLE, HELD, MIXED, all_parts, chain, chance_taken, example
 
 PING = {"a": [("send", "x", "b")], "b": [("take", "x")]}
 PONG = {"a": [("take", "x")], "b": [("send", "x", "a")]}
@@ -47,12 +47,6 @@ CALLS = [
 GOOD = {InvalidNumber: [0, 1, 2, 7, 10 ** 29]}
 
 
-def chain(many):
-    """A run of so many letters from a to b, each taken at once."""
-    words = [head + tail for head in "lm" for tail in "abcdefghijklmnopqrstuvwxyz"][:many]
-    return Run({"a": [("send", word, "b") for word in words], "b": [("take", word) for word in words]})
-
-
 class Examples(unittest.TestCase):
     def test_the_block_of_the_document(self):
         run = Run({"a": [("send", "x", "b"), ("send", "y", "c")], "b": [("take", "x"), ("send", "z", "c")],
@@ -73,13 +67,8 @@ class Examples(unittest.TestCase):
             [[['a', 'b'], 2], ['a'], None, ['a', 'b', 'c', 'd']])
 
 
-class Wrong(CallCase):
-    def test_wrong_arguments(self):
-        self.check_odd_objects(CALLS, GOOD)
-
-    def test_nothing_is_shared_and_nothing_passed_is_changed(self):
-        for call in CALLS:
-            self.check_shares_nothing(call)
+class Wrong(EachCall, CallCase):
+    calls, good = CALLS, GOOD
 
     def test_runs_in_which_a_letter_lies(self):
         for call in CALLS:

@@ -9,7 +9,7 @@ from postways.kinds import KINDS, is_of, kinds_kept, kinds_of, least_kind
 from postways.rings import (are_reasons, arrows_of, crossing, crown, detour, goes_to, is_ring_for, least_ring, moments,
                             reasons_for, ring_for)
 from postways.runs import Run, kept
-from tests.calls import Call, CallCase, call_of, odd_but
+from tests.calls import Call, CallCase, EachCall, call_of, odd_but
 from tests.counts import Counted, closed
 from tests.samples import (CROSSED, CROSSING, HELD, KNOT, LATE, LOST, MIXED, SWAPPED, all_parts,
                            all_runs_of_two, chance_rows, chance_taken, example, small_rows)
@@ -68,13 +68,10 @@ class Examples(unittest.TestCase):
              [('send', 'ma', 'ra'), ('send', 'lb', 'rb')]])
 
 
-class Wrong(CallCase):
-    def test_wrong_arguments(self):
-        self.check_odd_objects(CALLS, GOOD)
+class Wrong(EachCall, CallCase):
+    calls, good = CALLS, GOOD
 
-    def test_nothing_is_shared_and_nothing_passed_is_changed(self):
-        for call in CALLS:
-            self.check_shares_nothing(call)
+    def test_nothing_is_shared_for_any_kind(self):
         for kind in KINDS:
             for run in (LATE, HELD, KNOT, SWAPPED):
                 for function in (arrows_of, ring_for):

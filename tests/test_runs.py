@@ -8,8 +8,8 @@ from postways.errors import (InvalidLetter, InvalidLetters, InvalidNames, Invali
                              Refused)
 from postways.runs import (Run, are_alike, busy, called, is_kept_of, is_rows, kept, lane, lies, lying, moved, named,
                            receiver_of, sender_of, turned_back)
-from tests.calls import Call, CallCase, call_of, odd_but
-from tests.samples import (EXAMPLE, MIXED, all_rows_of_two, chance_rows, example, mixed, not_runs, small_rows,
+from tests.calls import Call, CallCase, EachCall, call_of, odd_but
+from tests.samples import (EXAMPLE, MIXED, all_rows_of_two, chain, chance_rows, example, mixed, not_runs, small_rows,
                            stands_in_order)
 
 RUN = ("run", example, InvalidRun)
@@ -38,12 +38,6 @@ GOOD = {
 }
 
 
-def chain(many):
-    """A run of so many letters from a to b, each taken at once; called la, lb, .., then ma, mb, .."""
-    names = [head + tail for head in "lm" for tail in "abcdefghijklmnopqrstuvwxyz"][:many]
-    return Run({"a": [("send", name, "b") for name in names], "b": [("take", name) for name in names]})
-
-
 class Examples(unittest.TestCase):
     def test_the_block_of_the_document(self):
         run = Run({"a": [("send", "x", "b"), ("send", "y", "c")], "b": [("take", "x"), ("send", "z", "c")],
@@ -61,13 +55,10 @@ class Examples(unittest.TestCase):
             [[('send', 'y', 'a'), ('send', 'z', 'b')], True, True])
 
 
-class Wrong(CallCase):
-    def test_wrong_arguments(self):
-        self.check_odd_objects(CALLS, GOOD)
+class Wrong(EachCall, CallCase):
+    calls, good = CALLS, GOOD
 
-    def test_nothing_is_shared_and_nothing_passed_is_changed(self):
-        for call in CALLS:
-            self.check_shares_nothing(call)
+    def test_nothing_is_shared_by_rows_and_methods(self):
         self.check_shares_nothing(Call(is_rows, ("value", lambda: {"a": []}, None)))
         for method in (Run.rows, Run.parties, Run.letters):
             self.check_shares_nothing(Call(method, ("self", mixed, None)))
