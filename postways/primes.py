@@ -67,7 +67,7 @@ def are_primes(run, value):
     primes = primes_of(run)
     if not isinstance(value, list) or len(value) != len(primes):
         return False
-    if not all([isinstance(one, Run) for one in value]) or not all([prime in value for prime in primes]):
+    if not all([prime in value for prime in primes]):
         return False
     whole = Run({})
     for prime in value:

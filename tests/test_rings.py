@@ -109,7 +109,8 @@ class Wrong(EachCall, CallCase):
         wrongs = [tuple(REASONS), begun, REASONS[1:], REASONS[::-1], [], [REASONS[0]], [[YT, YT]], [(YT, YT)],
                   [REASONS[0], *REASONS[2:]], [*REASONS[:2], last], [*REASONS, (YS, ZS)],
                   [list(pair) for pair in REASONS], [*begun, (YT, YT, YT)], [*begun, (YT,)], [*begun, None],
-                  [*begun, True], [*begun, (["y", "take"], YT)], [*begun, (YT, ("y", "lie"))],
+                  [*begun, True], [*begun, (["y", "take"], YT)], [*begun, (YT, ["y", "take"])],
+                  [*begun, (YT, YL)],
                   {pair: 1 for pair in REASONS}, [(("q", "send"), ZS), *REASONS], [*REASONS, (ZT, ("q", "take"))],
                   [Run({}), *REASONS], "reasons", [REASONS]]
         self.check_judge(call_of(CALLS, are_reasons), wrongs)
