@@ -121,7 +121,8 @@ def grounds_of(run):
         for arrow, cause in causes.items():
             if cause in grounds and arrow not in grounds:
                 grounds[arrow] = [cause]
-        for first, second in joints_of(grounds):
+        joints = joints_of(grounds)
+        for first, second in joints:
             if (first[0], second[1]) not in grounds:
                 grounds[(first[0], second[1])] = [first, second]
     return grounds
