@@ -32,3 +32,8 @@ def is_part_of(value, known):
         return False
     # The members are looked for first: only what stands in the list is sure to be comparable.
     return all([member in known for member in value]) and is_ascending(value)
+
+
+def is_pair_of(value, known):
+    """Whether any object is a tuple of two members of a list."""
+    return isinstance(value, tuple) and len(value) == 2 and value[0] in known and value[1] in known

@@ -3,7 +3,7 @@
 from postways.arrows import arrows_for, belt_causes, known_moments, makes_ring, reached, steps_ahead, steps_for
 from postways.errors import InvalidEvent, InvalidMake
 from postways.kinds import check_kind
-from postways.plain import ALPHABET, are_unlike
+from postways.plain import ALPHABET, are_unlike, is_pair_of
 from postways.runs import Run, check_run
 
 
@@ -34,15 +34,24 @@ def ring_for(run, kind):
     check_run(run)
     check_kind(kind)
     steps = steps_for(run, kind)
+    return shortest_ring(steps, [pair for pair in pairs_of(steps) if makes_ring(kind, pair[0], pair[1])])
+
+
+def pairs_of(steps):
+    """The list of the tuples of two unlike moments, the lesser first."""
+    return [(one, other) for one in steps for other in steps if one < other]
+
+
+def shortest_ring(steps, pairs):
+    """A shortest ring by steps over two moments that are one of some pairs, None if there is none."""
     befores = {moment: first_befores(steps, moment) for moment in steps}
     ring = None
-    for one in befores:
-        for other in befores[one]:
-            if one < other and one in befores[other] and makes_ring(kind, one, other):
-                # Of the shortest ones none comes twice to a moment: half of it would do.
-                closed = way_there(befores[one], other) + way_there(befores[other], one)
-                if ring is None or len(closed) < len(ring):
-                    ring = closed
+    for one, other in pairs:
+        if other in befores[one] and one in befores[other]:
+            # Of the shortest ones none comes twice to a moment: half of it would do.
+            closed = way_there(befores[one], other) + way_there(befores[other], one)
+            if ring is None or len(closed) < len(ring):
+                ring = closed
     return ring
 
 
@@ -78,15 +87,19 @@ def is_ring_for(run, kind, value):
     """Whether any object is a ring for a kind."""
     check_run(run)
     check_kind(kind)
+    if not is_closed(steps_for(run, kind), value):
+        return False
+    return any([makes_ring(kind, value[0], moment) for moment in value[1:]])
+
+
+def is_closed(steps, value):
+    """Whether any object is a list of two moments or more, none twice, with a step from each to the next one."""
     if not isinstance(value, list) or len(value) < 2:
         return False
-    steps = steps_for(run, kind)
     if not all([moment in list(steps) for moment in value]) or not are_unlike(value):
         return False
     # The list begins with the step from the last one to the first.
-    if not all([moment in steps[value[k - 1]] for k, moment in enumerate(value)]):
-        return False
-    return any([makes_ring(kind, value[0], moment) for moment in value[1:]])
+    return all([moment in steps[value[k - 1]] for k, moment in enumerate(value)])
 
 
 def least_ring(run, kind):
@@ -147,11 +160,6 @@ def are_reasons(run, value):
             return False
         told[pair] = True
     return value[-1][0] == value[-1][1]
-
-
-def is_pair_of(value, known):
-    """Whether any object is a tuple of two members of a list."""
-    return isinstance(value, tuple) and len(value) == 2 and value[0] in known and value[1] in known
 
 
 def is_joined(pair, told):

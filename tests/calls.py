@@ -3,6 +3,7 @@
 import unittest
 
 from postways.errors import InvalidRun
+from postways.posts import Post
 from tests.samples import not_runs, odd_objects
 
 
@@ -46,6 +47,8 @@ def shown(value):
     """A text that tells a value apart from all unlike ones, also of another class, order or kind."""
     if hasattr(value, "rows"):
         return f"Run({shown(value.rows())})"
+    if isinstance(value, Post):
+        return f"Post({value.kind()}, {shown(value.line())}, {shown(value.run())})"
     if isinstance(value, (list, tuple)):
         return f"{type(value).__name__}({', '.join(shown(inner) for inner in value)})"
     if isinstance(value, dict):

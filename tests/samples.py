@@ -4,6 +4,7 @@ import itertools
 import random
 
 from postways.errors import InvalidRows, NothingToUndo, PostError, Refused
+from postways.posts import Post
 from postways.runs import Run, is_rows
 
 EXAMPLE = {
@@ -46,6 +47,11 @@ CROSSING = {
 CROSSED = {"a": [("send", "x", "b"), ("take", "y")], "b": [("send", "y", "a"), ("take", "x")]}
 # of no kind: the second one of a lane is taken first
 SWAPPED = {"a": [("send", "x", "b"), ("send", "y", "b")], "b": [("take", "y"), ("take", "x")]}
+# two lanes of two letters each, of which one has to hold both
+TWO = {
+    "p": [("send", "a", "q"), ("send", "b", "q"), ("take", "c"), ("take", "d")],
+    "q": [("send", "c", "p"), ("send", "d", "p"), ("take", "a"), ("take", "b")],
+}
 # x lies, and what was sent behind it in its lane is taken
 LOST = {"a": [("send", "x", "b"), ("send", "y", "b")], "b": [("take", "y")]}
 
@@ -85,7 +91,7 @@ def odd_objects():
         deep(lambda inner: [inner]), deep(lambda inner: (inner,)), deep(lambda inner: {"x": inner}),
         deep(lambda inner: [(inner, {"a": inner})], 8), {deep(lambda inner: (inner,)): 1},
         Run({}), example(), [Run({})], (Run({}), "send"), {"a": Run({})}, [(Run({}), Run({}))],
-        InvalidRows([]), PostError(), NothingToUndo(), [Refused("x")], {Refused("x"): "x"},
+        InvalidRows([]), PostError(), NothingToUndo(), [Refused("x")], {Refused("x"): "x"}, Post("box"), [Post("hand")],
     ]
 
 

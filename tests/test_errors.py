@@ -3,7 +3,7 @@
 import inspect
 import unittest
 
-from postways import ahead, errors, kinds, lines, primes, products, rings, runs
+from postways import ahead, errors, kinds, lines, logs, mending, posts, primes, products, rings, runs, slots
 from tests.samples import odd_objects
 
 WITH_VALUE = """InvalidRows InvalidRun InvalidLetter InvalidLetters InvalidParty InvalidNames InvalidEvent
@@ -30,6 +30,22 @@ FUNCTIONS = {
         many_orders(run) are_together(run,one,other) prime_kinds(run) longest_prime(run)""",
     products: """is_start_of(one,run) rest_behind(one,run) common_start(one,other) common_whole(one,other)
         commute(one,other) power(run,many) root_of(run)""",
+    slots: """lanes_of(run) lying_in(run,line) goes_with(run,slots) line_with(run,slots) is_line_with(run,slots,value)
+        arrows_with(run,slots) ring_with(run,slots) is_ring_with(run,slots,value) least_of_lane(run,lane)
+        lane_leasts(run) least_slots(run) is_least_slots(run,value) fewest_lying(run) fewest_line(run)
+        is_fewest_line(run,value)""",
+    mending: """is_volley(run) rounds_of(run) fewest_rounds(run) are_rounds(run,value) bars_rounds(run) round_gaps(run)
+        delay_of(run) is_delay(run,number,value) cores(run,kind) any_core(run,kind) is_core(run,kind,value)
+        left_out(run,kind) is_left_out(run,kind,value) fewest_left_out(run,kind) most_kept(run,kind)
+        blamed(run,kind)""",
+    logs: """is_log(value) log_of(run) fits(log,run) fitting(log) many_fitting(log) lanes_run(log) marks_along(run,line)
+        done_of(log) waits_at(log) kind_of_log(log) same_log(one,other) changed_about(run,letter,other)""",
+    posts: """passes(run,kind,line) stops_at(run,kind,line) served_by(run,line) least_carrying(runs)
+        barred_by(runs,kind) parted_by(runs,kind,other)""",
+}
+CLASSES = {
+    runs.Run: """(rows) rows() parties() letters()""",
+    posts.Post: """(kind) send(letter,sender,receiver) take(letter) free() lying() line() run() kind() copy()""",
 }
 
 
@@ -79,12 +95,15 @@ class Names(unittest.TestCase):
                 self.assertEqual(function.__module__, module.__name__)
                 self.assertEqual(list(inspect.signature(function).parameters), parameters.split(","), name)
 
-    def test_the_class_of_runs_has_its_methods_itself(self):
-        self.assertEqual(runs.Run.__module__, "postways.runs")
-        self.assertEqual(list(inspect.signature(runs.Run).parameters), ["rows"])
-        for name in ("rows", "parties", "letters"):
-            self.assertIn(name, vars(runs.Run))
-            self.assertEqual(list(inspect.signature(vars(runs.Run)[name]).parameters), ["self"])
+    def test_classes_have_their_methods_themselves(self):
+        for one, text in CLASSES.items():
+            for entry in text.split():
+                name, _, parameters = entry.rstrip(")").partition("(")
+                function = vars(one)[name or "__init__"]
+                self.assertTrue(inspect.isfunction(function), name)
+                self.assertEqual(list(inspect.signature(function).parameters), ["self", *filter(None, parameters.split(","))])
+        for module, one in ((runs, runs.Run), (posts, posts.Post)):
+            self.assertEqual(one.__module__, module.__name__)
 
 
 if __name__ == "__main__":

@@ -5,7 +5,7 @@ import random
 import time
 import unittest
 
-from postways import ahead, kinds, lines, primes, products, rings, runs
+from postways import ahead, kinds, lines, logs, mending, posts, primes, products, rings, runs, slots
 from postways.kinds import KINDS
 from postways.rings import crossing, crown, detour
 from postways.runs import Run
@@ -56,6 +56,16 @@ def full():
     chance = random.Random(13)
     return [round_about(8), pairs(), all_lie(), fan, hall, *[Run(chance_rows(chance, 8, 8)) for _ in range(5)],
             *[Run(chance_rows(chance, 3, 8)) for _ in range(3)]]
+
+
+def small():
+    """Runs of five letters, some of whose events are mostly beside one another."""
+    chance = random.Random(5)
+    lie = Run({party: [("send", party, "f")] if party != "f" else [] for party in "abcdef"})
+    hall = Run({"a": [("send", letter, "b") for letter in "vwxyz"], "b": [("take", letter) for letter in "zyxwv"]})
+    lanes = Run({**{party: [("send", party, other)] for party, other in zip("abcd", "efgh")},
+                 **{other: [("take", party)] for party, other in zip("abcd", "efgh")}})
+    return [round_about(5), lie, hall, lanes, *[Run(chance_rows(chance, 2 + k, 5)) for k in range(5)]]
 
 
 class Case(unittest.TestCase):
@@ -210,6 +220,128 @@ class Limits(Case):
             self.assertIs(self.in_time(products.commute, run, whole), True)
             self.assertEqual(self.in_time(products.common_start, whole, run), runs.named(run))
             self.assertEqual(self.in_time(products.common_whole, whole, run), whole)
+
+    def test_slots(self):
+        for run in full():
+            lanes, first = self.in_time(slots.lanes_of, run), lines.first_line(run)
+            self.assertEqual(list(self.in_time(slots.lying_in, run, first)), lanes)
+            for lane in lanes:
+                self.in_time(slots.least_of_lane, run, lane)
+            leasts = self.in_time(slots.lane_leasts, run)
+            for some in (leasts, {lane: 1 for lane in lanes}, {lane: 8 for lane in lanes}):
+                goes = self.in_time(slots.goes_with, run, some)
+                self.in_time(slots.arrows_with, run, some)
+                line, ring = self.in_time(slots.line_with, run, some), self.in_time(slots.ring_with, run, some)
+                self.assertEqual([line is not None, ring is None], [goes, goes])
+                self.assertIs(self.in_time(slots.is_line_with, run, some, line), goes)
+                self.assertIs(self.in_time(slots.is_ring_with, run, some, ring), not goes)
+                self.in_time(slots.is_least_slots, run, some)
+            fewest, line = self.in_time(slots.fewest_lying, run), self.in_time(slots.fewest_line, run)
+            self.assertEqual(max(lines.lying_along(run, line)), fewest)
+            self.assertIs(self.in_time(slots.is_fewest_line, run, line), True)
+
+    def test_least_slots_of_five_letters(self):
+        for run in small():
+            for some in self.in_time(slots.least_slots, run):
+                self.assertIs(self.in_time(slots.is_least_slots, run, some), True)
+
+    def test_rounds(self):
+        chance = random.Random(62)
+        for run in [crown(8), round_about(8), pairs(), chain(8), *[Run(chance_taken(chance, 8, 8)) for _ in range(4)],
+                    *[Run(chance_taken(chance, 2, 8)) for _ in range(4)], self.to_and_fro(8)]:
+            rounds, many = self.in_time(mending.rounds_of, run), self.in_time(mending.fewest_rounds, run)
+            delay, bars = self.in_time(mending.delay_of, run), self.in_time(mending.bars_rounds, run)
+            gaps = self.in_time(mending.round_gaps, run)
+            self.assertIs(self.in_time(mending.is_volley, run), gaps == [])
+            self.assertIs(rounds is None, bars != [])
+            if rounds is not None:
+                self.assertIs(self.in_time(mending.are_rounds, run, rounds), True)
+                self.assertIs(self.in_time(mending.is_delay, run, many - 1, delay), True)
+        self.assertEqual(len(rounds), 8)
+
+    def to_and_fro(self, many):
+        """A run of two parties, in which each letter answers the one before it."""
+        rows = {"p": [], "q": []}
+        for k in range(many):
+            sender, receiver = "pq"[k % 2], "qp"[k % 2]
+            rows[sender].append(("send", PARTIES[k], receiver))
+            rows[receiver].append(("take", PARTIES[k]))
+        return Run(rows)
+
+    def test_cores(self):
+        for run in full():
+            for kind in KINDS:
+                core = self.in_time(mending.any_core, run, kind)
+                self.assertIs(self.in_time(mending.is_core, run, kind, core), not kinds.is_of(run, kind))
+                self.in_time(mending.is_left_out, run, kind, run.letters())
+        for run in small():
+            for kind in KINDS:
+                found = self.in_time(mending.cores, run, kind)
+                outs, kept = self.in_time(mending.left_out, run, kind), self.in_time(mending.most_kept, run, kind)
+                fewest = self.in_time(mending.fewest_left_out, run, kind)
+                self.assertEqual(len(kept[0]) + fewest, len(run.letters()))
+                self.assertIn(fewest, map(len, outs))
+                self.assertEqual(sum(self.in_time(mending.blamed, run, kind).values()), sum(map(len, found)))
+
+    def test_logs(self):
+        for seed in range(6):
+            log = self.log_of_chance(seed, (2, 3, 8)[seed % 3], 26)
+            self.assertIs(self.in_time(logs.is_log, log), True)
+            run = self.in_time(logs.lanes_run, log)
+            self.assertIs(self.in_time(logs.fits, log, run), True)
+            self.assertEqual(self.in_time(logs.log_of, run), log)
+            self.assertEqual(self.in_time(logs.waits_at, log), {})
+            self.assertEqual(self.in_time(logs.done_of, log), {party: len(log[party]) for party in sorted(log)})
+            self.assertIn(self.in_time(logs.kind_of_log, log), KINDS)
+            self.assertIs(self.in_time(logs.same_log, run, run), True)
+        log = {"p": [("to", "q")] * 26, "q": [("from", "p")] * 60}
+        self.assertEqual(self.in_time(logs.waits_at, log), {"q": ("from", "p")})
+        for run in full():
+            line = lines.first_line(run)
+            self.assertEqual(len(self.in_time(logs.marks_along, run, line)), len(line))
+        hall = Run({"a": [("send", letter, "b") for letter in "stuvwxyz"], "b": [("take", letter) for letter in "zyxw"]})
+        self.assertIs(self.in_time(logs.same_log, hall, self.in_time(logs.changed_about, hall, "s", "z")), True)
+
+    def test_runs_that_fit_logs_of_five_marks(self):
+        for run in small():
+            log = logs.log_of(run)
+            self.assertEqual(self.in_time(logs.many_fitting, log), len(self.in_time(logs.fitting, log)))
+        log = {"p": [("to", "q")] * 5, "q": [("from", "p")] * 5}
+        self.assertEqual(self.in_time(logs.many_fitting, log), 120)
+        log["q"] = [("from", "p")] * 60
+        self.assertEqual(self.in_time(logs.fitting, log), [])
+
+    def log_of_chance(self, seed, parties, many):
+        """A log with so many marks "to", all of which come to their ends."""
+        chance, names = random.Random(seed), list(PARTIES[:parties])
+        log, lying, sent = {name: [] for name in names}, [], 0
+        while sent < many or lying:
+            if sent < many and (not lying or chance.random() < 0.5):
+                sender, receiver = chance.sample(names, 2)
+                log[sender].append(("to", receiver))
+                lying.append((sender, receiver))
+                sent += 1
+            else:
+                sender, receiver = lying.pop(chance.randrange(len(lying)))
+                log[receiver].append(("from", sender))
+        return log
+
+    def test_posts(self):
+        for run in full():
+            line = lines.first_line(run)
+            served = self.in_time(posts.served_by, run, line)
+            for kind in KINDS:
+                self.assertIs(self.in_time(posts.passes, run, kind, line), kind in served)
+                self.in_time(posts.stops_at, run, kind, line)
+
+    def test_lists_of_sixty_runs(self):
+        made = full()
+        for runs_told in ([made[k % len(made)] for k in range(60)], [crown(8)] * 60, [chain(8)] * 60):
+            least = self.in_time(posts.least_carrying, runs_told)
+            for kind in KINDS:
+                place = self.in_time(posts.barred_by, runs_told, kind)
+                self.assertTrue(place is not None or least is not None)
+                self.in_time(posts.parted_by, runs_told, kind, "belt")
 
 
 if __name__ == "__main__":
