@@ -124,8 +124,6 @@ def all_takes(log):
 def fitting(log):
     """The list of all named runs that fit a log, ascending by the lists of their rows."""
     check_log(log)
-    if not has_sends(log):
-        return []
     sends = sends_told(log)
     # The parties of all are the same, so the lists of the rows tell them apart.
     rows = [rows_by(log, sends, takes) for takes in all_takes(log)]

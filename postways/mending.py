@@ -115,11 +115,11 @@ def is_delay(run, number, value):
 
 
 def parts_of(letters):
-    """The list of all ascending lists of some of ascending letters, shorter ones first."""
+    """The list of all ascending lists of some of ascending letters, each behind those of fewer of its own."""
     parts = [[]]
     for letter in letters:
         parts = parts + [[*part, letter] for part in parts]
-    return sorted(parts, key=len)
+    return parts
 
 
 def has_all(part, letters):
@@ -133,7 +133,7 @@ def cores(run, kind):
     check_kind(kind)
     found = []
     for part in parts_of(run.letters()):
-        # Shorter ones come first, so what is not of the kind and has no core in it is one.
+        # Those of fewer of its letters came first, so what is not of the kind and has no core in it is one.
         if not any([has_all(core, part) for core in found]) and not is_of(kept(run, part), kind):
             found.append(part)
     return sorted(found)

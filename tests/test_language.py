@@ -156,7 +156,12 @@ class Language(unittest.TestCase):
                 self.assertNotIn(name, UNUSED, file.name)
         for node, place in self.each(ast.Attribute):
             self.assertNotIn(node.attr, UNUSED + ["format", "format_map"], place)
-            self.assertTrue(not node.attr.startswith("__") or node.attr == "__init__", place)
+            if node.attr == "__name__":
+                self.assertTrue(isinstance(node.value, ast.Attribute) and node.value.attr == "__class__", place)
+            elif node.attr == "__class__":
+                self.assertTrue(isinstance(node.value, ast.Name) and node.around.attr == "__name__", place)
+            else:
+                self.assertTrue(not node.attr.startswith("__") or node.attr == "__init__", place)
 
     def test_words_that_no_code_has(self):
         for file, text, tree in trees():
@@ -203,7 +208,8 @@ class Language(unittest.TestCase):
             if name_of_call(node) in ("zip", "enumerate", "reversed", "range") or view:
                 around = node.around
                 iterated = isinstance(around, (ast.For, ast.comprehension)) and around.iter is node
-                self.assertTrue(iterated or name_of_call(around) in at_once, place)
+                backwards = name_of_call(node) == "range" and name_of_call(around) == "reversed"
+                self.assertTrue(iterated or backwards or name_of_call(around) in at_once, place)
 
     def test_sets(self):
         stored = {}
@@ -241,6 +247,24 @@ class Language(unittest.TestCase):
             self.assertTrue(node.exc is None or name_of_call(node.exc), place)
         for node, place in self.each(ast.ExceptHandler):
             self.assertIsInstance(node.type, (ast.Name, ast.Tuple), place)
+
+    def test_tables_are_read_on_the_spot(self):
+        tables = {node.targets[0].id for node, _ in self.each(ast.Assign)
+                  if isinstance(node.around, ast.Module) and isinstance(node.value, (ast.Dict, ast.List))}
+        self.assertTrue(tables)
+        for node, place in self.each(ast.Name):
+            if node.id in tables and isinstance(node.ctx, ast.Load):
+                around = node.around
+                read = isinstance(around, ast.Subscript) and around.value is node and isinstance(around.ctx, ast.Load)
+                asked = isinstance(around, ast.Attribute) and around.attr in ("get", "items", "keys", "values")
+                self.assertTrue(read or asked or isinstance(around, ast.Compare), place)
+
+    def test_what_blocks_do_when_they_are_left(self):
+        for node, place in self.each(ast.FunctionDef):
+            if node.name == "__exit__":
+                self.assertEqual([arg.arg for arg in node.args.args], ["self", "kind", "value", "trace"], place)
+                for row in node.body:
+                    self.assertTrue(isinstance(row, ast.Assign) and isinstance(row.value, ast.Attribute), place)
 
     def test_what_a_loop_goes_over_is_not_changed_in_it(self):
         changing = "append clear extend insert pop remove reverse setdefault update add discard".split()

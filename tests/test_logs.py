@@ -193,7 +193,9 @@ class SmallLogs(unittest.TestCase):
         logs = [plain_log(run.rows()) for run in runs]
         logs += [chance_log(chance, 2 + k % 3, 1 + k % 6) for k in range(150)]
         logs += [{}, {"p": []}, LOG, STUCK, {"p": [("to", "q")] * 5, "q": []}, {"p": [("from", "q")], "q": []},
-                 {"p": [("to", "q")] * 5, "q": [("from", "p")] * 2}, {"p": [("to", "q")] * 2, "q": [("from", "p")] * 3}]
+                 {"p": [("to", "q")] * 5, "q": [("from", "p")] * 2},
+                 {"p": [("to", "q")] * 3, "q": [("from", "p"), ("from", "r"), ("from", "p")], "r": [("to", "q")] * 2},
+                 {"p": [("to", "q")] * 2, "q": [("from", "p")] * 3}]
         cls.runs, cls.chance = runs, chance
         cls.told = [(log, plain_fitting(log)) for log in logs if sum(m[0] == "to" for k in log.values() for m in k) <= 5]
 
@@ -215,6 +217,9 @@ class SmallLogs(unittest.TestCase):
             for run in runs:
                 self.assertEqual([named(run), fits(log, run)], [run, True])
             seen.add(min(len(runs), 7))
+            # the order of the keys means nothing
+            turned = {party: log[party] for party in list(log)[::-1]}
+            self.assertEqual([fitting(turned), lanes_run(turned)], [runs, lanes_run(log)])
         self.assertLessEqual({0, 1, 2, 3, 4, 6, 7}, seen)
 
     def test_the_run_whose_lanes_are_in_order(self):
