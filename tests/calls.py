@@ -2,9 +2,14 @@
 
 import unittest
 
-from postways.errors import InvalidRun
+from postways.desk import Desk
+from postways.errors import InvalidDesk, InvalidPlan, InvalidRun, NothingToRedo
+from postways.plans import Plan
 from postways.posts import Post
-from tests.samples import not_runs, odd_objects
+from postways.runs import Run
+from tests.samples import odd_objects
+
+CLASSES = {InvalidRun: Run, InvalidPlan: Plan, InvalidDesk: Desk}
 
 
 class Call:
@@ -43,12 +48,27 @@ def spoil(value):
         value[:] = ["spoilt"]
 
 
+def made_again(desk):
+    """The list of all commands that can be made again on a desk, with the runs and the kinds held behind them."""
+    desk, found = desk.copy(), []
+    while True:
+        try:
+            desk.redo()
+        except NothingToRedo:
+            return found
+        found.append((desk.record()[-1], desk.run(), desk.held()))
+
+
 def shown(value):
     """A text that tells a value apart from all unlike ones, also of another class, order or kind."""
     if hasattr(value, "rows"):
         return f"Run({shown(value.rows())})"
     if isinstance(value, Post):
         return f"Post({value.kind()}, {shown(value.line())}, {shown(value.run())})"
+    if isinstance(value, Plan):
+        return f"Plan({shown([value.pieces(), value.ways(), value.firsts(), value.lasts()])})"
+    if isinstance(value, Desk):
+        return f"Desk({shown([value.run(), value.held(), value.record(), made_again(value)])})"
     if isinstance(value, (list, tuple)):
         return f"{type(value).__name__}({', '.join(shown(inner) for inner in value)})"
     if isinstance(value, dict):
@@ -84,7 +104,8 @@ class CallCase(unittest.TestCase):
         for call in calls:
             for position, error in enumerate(call.errors):
                 if error is not None:
-                    wrongs = not_runs() if error is InvalidRun else odd_but(*good[error])
+                    known = CLASSES.get(error, ())
+                    wrongs = [value for value in odd_but(*good.get(error, [])) if not isinstance(value, known)]
                     self.check_wrong(call, position, wrongs)
 
     def check_judge(self, call, wrongs):
@@ -110,10 +131,10 @@ class CallCase(unittest.TestCase):
         spoil(first)
         self.assertEqual(shown(second), expected)
         self.assertEqual(shown(call.function(*arguments)), expected)
-        kept = [argument for argument in arguments if hasattr(argument, "rows")]
-        spoil([argument for argument in arguments if not hasattr(argument, "rows")])
+        kept = [argument for argument in arguments if isinstance(argument, (Run, Plan))]
+        spoil([argument for argument in arguments if not isinstance(argument, (Run, Plan))])
         self.assertEqual(shown(second), expected)
-        fresh = [kept.pop(0) if hasattr(good, "rows") else good for good in call.good()]
+        fresh = [kept.pop(0) if isinstance(good, (Run, Plan)) else good for good in call.good()]
         self.assertEqual(shown(call.function(*fresh)), expected)
         self.assertEqual(shown(call.function(**dict(zip(call.names, call.good())))), expected)
 

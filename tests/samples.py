@@ -3,7 +3,9 @@
 import itertools
 import random
 
+from postways.desk import Desk
 from postways.errors import InvalidRows, NothingToUndo, PostError, Refused
+from postways.plans import Plan
 from postways.posts import Post
 from postways.runs import Run, is_rows
 
@@ -92,6 +94,7 @@ def odd_objects():
         deep(lambda inner: [(inner, {"a": inner})], 8), {deep(lambda inner: (inner,)): 1},
         Run({}), example(), [Run({})], (Run({}), "send"), {"a": Run({})}, [(Run({}), Run({}))],
         InvalidRows([]), PostError(), NothingToUndo(), [Refused("x")], {Refused("x"): "x"}, Post("box"), [Post("hand")],
+        Plan({}, {}, [], []), [Plan({}, {}, [], [])], Desk(), (Desk(),),
     ]
 
 

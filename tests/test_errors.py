@@ -3,7 +3,8 @@
 import inspect
 import unittest
 
-from postways import ahead, errors, kinds, lines, logs, mending, posts, primes, products, rings, runs, slots
+from postways import (ahead, desk, errors, kinds, lines, logs, mending, papers, plans, posts, primes, products, rings, runs,
+                      scripts, slots)
 from tests.samples import odd_objects
 
 WITH_VALUE = """InvalidRows InvalidRun InvalidLetter InvalidLetters InvalidParty InvalidNames InvalidEvent
@@ -42,10 +43,20 @@ FUNCTIONS = {
         done_of(log) waits_at(log) kind_of_log(log) same_log(one,other) changed_about(run,letter,other)""",
     posts: """passes(run,kind,line) stops_at(run,kind,line) served_by(run,line) least_carrying(runs)
         barred_by(runs,kind) parted_by(runs,kind,other)""",
+    plans: """is_way(plan,value) run_of_way(plan,way) on_ways(plan) ways_within(plan,number) many_ways(plan,number)
+        is_plan_of(plan,kind) bad_way(plan,kind) least_kind_of(plan) runs_within(plan,number) alike_pieces(plan)
+        endless(plan)""",
+    desk: "replayed(desk,record)",
+    scripts: "play(desk,script) end_of(script) shortened(script) script_text(script) read_script(text)",
+    papers: """run_text(run) read_run(text) line_text(line) read_line(text) log_text(log) read_log(text) plan_text(plan)
+        read_plan(text)""",
 }
 CLASSES = {
     runs.Run: """(rows) rows() parties() letters()""",
     posts.Post: """(kind) send(letter,sender,receiver) take(letter) free() lying() line() run() kind() copy()""",
+    plans.Plan: """(pieces,ways,firsts,lasts) pieces() ways() firsts() lasts()""",
+    desk.Desk: """() send(letter,sender,receiver) take(letter) drop(letter) put(run) hold(kind) run() kind() held() lying()
+        free(kind) trial() attempt(action) copy() undo() redo() record()""",
 }
 
 
@@ -102,7 +113,7 @@ class Names(unittest.TestCase):
                 function = vars(one)[name or "__init__"]
                 self.assertTrue(inspect.isfunction(function), name)
                 self.assertEqual(list(inspect.signature(function).parameters), ["self", *filter(None, parameters.split(","))])
-        for module, one in ((runs, runs.Run), (posts, posts.Post)):
+        for module, one in ((runs, runs.Run), (posts, posts.Post), (plans, plans.Plan), (desk, desk.Desk)):
             self.assertEqual(one.__module__, module.__name__)
 
 

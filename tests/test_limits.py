@@ -5,7 +5,9 @@ import random
 import time
 import unittest
 
-from postways import ahead, kinds, lines, logs, mending, posts, primes, products, rings, runs, slots
+from postways import (ahead, desk, kinds, lines, logs, mending, papers, plans, posts, primes, products, rings, runs,
+                      scripts, slots)
+from postways.errors import InvalidText
 from postways.kinds import KINDS
 from postways.rings import crossing, crown, detour
 from postways.runs import Run
@@ -342,6 +344,111 @@ class Limits(Case):
                 place = self.in_time(posts.barred_by, runs_told, kind)
                 self.assertTrue(place is not None or least is not None)
                 self.in_time(posts.parted_by, runs_told, kind, "belt")
+
+    def test_plans(self):
+        chance, names = random.Random(83), list("abcdef")
+        every = {name: names for name in names}
+        for parties in (2, 3, 8):
+            pieces = {name: Run(chance_taken(chance, parties, 4)) for name in names}
+            plan = self.in_time(plans.Plan, pieces, every, names, names)
+            self.assertEqual(self.in_time(plans.many_ways, plan, 60), 6 ** 60)
+            self.assertEqual(len(self.in_time(plans.ways_within, plan, 4)), 6 + 6 ** 2 + 6 ** 3 + 6 ** 4)
+            self.assertLessEqual(len(self.in_time(plans.runs_within, plan, 4)), 1554)
+            self.assertEqual([self.in_time(plans.on_ways, plan), self.in_time(plans.endless, plan)], [names, True])
+            self.in_time(plans.alike_pieces, plan)
+            least = self.in_time(plans.least_kind_of, plan)
+            for kind in KINDS:
+                self.assertIs(self.in_time(plans.is_plan_of, plan, kind), self.in_time(plans.bad_way, plan, kind) is None)
+            self.assertIs(least is None, not plans.is_plan_of(plan, "lanes"))
+            way = names[:6]
+            self.assertIs(self.in_time(plans.is_way, plan, way * 4), True)
+            self.assertEqual(len(self.in_time(plans.run_of_way, plan, way).letters()), 24)
+            text = self.in_time(papers.plan_text, plan)
+            self.assertEqual(self.in_time(papers.read_plan, text), plan)
+        one = plans.Plan({"a": chain(1)}, {"a": ["a"]}, ["a"], ["a"])
+        self.assertEqual(len(self.in_time(plans.run_of_way, one, ["a"] * 26).letters()), 26)
+
+    def test_desks_of_a_hundred_commands(self):
+        held = desk.Desk()
+        for _ in range(3):
+            for k in range(8):
+                self.in_time(held.send, PARTIES[k], PARTIES[k], PARTIES[k - 1])
+            for kind in KINDS:
+                self.in_time(held.free, kind)
+            self.in_time(held.hold, "belt")
+            for k in range(8):
+                self.in_time(held.take, PARTIES[k])
+                self.in_time(held.kind)
+            for k in range(8):
+                self.in_time(held.drop, PARTIES[k])
+            self.in_time(held.put, crown(8))
+            for k in range(7):
+                self.in_time(held.drop, PARTIES[k])
+            self.in_time(held.drop, "h")
+        record = self.in_time(held.record)
+        self.assertEqual(len(record), 102)
+        again = self.in_time(desk.replayed, desk.Desk(), record[:100])
+        for _ in range(100):
+            self.in_time(again.undo)
+        self.assertEqual(again.run(), Run({}))
+        for _ in range(100):
+            self.in_time(again.redo)
+        self.assertEqual([again.record(), self.in_time(again.copy).record()], [record[:100]] * 2)
+
+    def test_blocks_ten_deep(self):
+        held = desk.Desk()
+        held.put(crown(8))
+
+        def further(one, depth=1):
+            one.drop(PARTIES[depth - 1])
+            return one.attempt(lambda two: further(two, depth + 1)) if depth < 8 else one.run().letters()
+        self.assertEqual(self.in_time(held.attempt, further), [])
+        self.assertEqual(held.run(), crown(8))
+
+    def test_scripts(self):
+        script = [("put", crown(8)), ("hold", "belt"), ("drop", "a"), ("undo",), ("free", "belt"), ("kind",)]
+        script += [("try", [("drop", "b"), ("try", [("drop", "c"), ("try", [("undo",), ("try", [("lying",)])])])])]
+        said = self.in_time(scripts.play, desk.Desk(), script)
+        self.assertEqual([said[0], said[-2]], [("done",), ("told", "belt")])
+        self.assertEqual(self.in_time(scripts.end_of, script), (crown(8), "belt"))
+        self.assertEqual(self.in_time(scripts.shortened, script), script[:4])
+        sends = [("send", PARTIES[k], PARTIES[k], PARTIES[k - 1]) for k in range(8)]
+        script = [*sends, ("hold", "lanes"), ("take", "a"), ("kind",), ("try", [])]
+        self.assertEqual(self.in_time(scripts.shortened, script), script[:10])
+        text = self.in_time(scripts.script_text, script)
+        self.assertEqual(self.in_time(scripts.read_script, text), script)
+
+    def test_texts_of_two_hundred_and_fifty_lines(self):
+        names = [head + tail + last for head in "xyz" for tail in "abcdefghij" for last in "klmnopqrst"][:250]
+        # four hundred signs a line
+        rows = {name: [("send", f"{name}{sign}", names[k - 1]) for sign in "abcdefghijklmnopqrstuvwxyzabcdef"[:26]]
+                for k, name in enumerate(names)}
+        run = Run(rows)
+        text = self.in_time(papers.run_text, run)
+        self.assertEqual([text.count("\n"), self.in_time(papers.read_run, text)], [249, run])
+        self.wrong_text(papers.read_run, text + "\n")
+        many = ">abcdefgh " * 39 + ">abcdefgh"
+        self.assertEqual(self.in_time(papers.line_text, self.in_time(papers.read_line, many)), many)
+        log = {name: [("from", names[k - 1])] * 60 for k, name in enumerate(names)}
+        text = self.in_time(papers.log_text, log)
+        self.assertEqual(self.in_time(papers.read_log, text), log)
+        self.wrong_text(papers.read_log, text + " <q")
+        plan = plans.Plan({name: Run({}) for name in names}, {name: names[:90] for name in names}, names, names)
+        text = self.in_time(papers.plan_text, plan)
+        self.assertEqual(self.in_time(papers.read_plan, text), plan)
+        self.wrong_text(papers.read_plan, text[:-1])
+        script = [("kind",), ("try", [("put", Run({name: [] for name in names[:120]})), ("try", [("undo",)] * 120)])]
+        text = self.in_time(scripts.script_text, script)
+        self.assertEqual(self.in_time(scripts.read_script, text), script)
+        self.wrong_text(scripts.read_script, "try\n" * 250)
+        self.wrong_text(scripts.read_script, "\n".join("  " * k + "try" for k in range(200)))
+        self.wrong_text(scripts.read_script, ("a" * 400 + "\n") * 250)
+
+    def wrong_text(self, reader, text):
+        """A reader refuses a text, if it does within some seconds."""
+        with self.assertRaises(InvalidText) as caught:
+            self.in_time(reader, text)
+        self.assertIs(caught.exception.value, text)
 
 
 if __name__ == "__main__":

@@ -76,6 +76,10 @@ class Wrong(EachCall, CallCase):
             for position, error in enumerate(call.errors):
                 if error is InvalidKind:
                     self.check_wrong(call, position, NO_KINDS)
+        none = ("runs", list, InvalidRuns)
+        self.check_wrong(Call(barred_by, none, KIND), 1, NO_KINDS)
+        for position in (1, 2):
+            self.check_wrong(Call(parted_by, none, KIND, ("other", lambda: "box", InvalidKind)), position, NO_KINDS)
         self.check_wrong(Call(Post, KIND), 0, NO_KINDS)
         self.check_odd_objects([Call(Post, KIND)], GOOD)
 
