@@ -108,17 +108,13 @@ def end_of(script):
 def shortened(script):
     """What is left of a script when, from the last command on, each is left out that the end does not need."""
     end = end_of(script)
-    left = copied(script)
+    # The end needs no try, so what is left shares no list with what was passed.
+    left = list(script)
     for k in reversed(range(len(script))):
         part = left[:k] + left[k + 1:]
         if end_of(part) == end:
             left = part
     return left
-
-
-def copied(script):
-    """A script of new lists."""
-    return [("try", copied(command[1])) if command[0] == "try" else command for command in script]
 
 
 def script_text(script):

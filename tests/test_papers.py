@@ -217,6 +217,12 @@ class Edges(unittest.TestCase):
         text = "a.: c\nb: a b c\n  p:\nc*.:"
         self.assertEqual([plan_text(plan), read_plan(text)], [text, plan])
 
+    def test_names_that_end_in_each_letter(self):
+        names = list("abcdefghijklmnopqrstuvwxyz")
+        plan = Plan({name: Run({}) for name in names}, {name: [name] for name in names}, names, names[1:])
+        text = "\n".join(["a*: a", *[f"{name}*.: {name}" for name in names[1:]]])
+        self.assertEqual([plan_text(plan), read_plan(text)], [text, plan])
+
     def test_pieces_in_which_a_letter_lies_are_no_plan(self):
         text = "a:\n  p: x>q\n  q:"
         self.assertEqual(read_run("p: x>q\nq:"), Run({"p": [("send", "x", "q")], "q": []}))

@@ -130,7 +130,6 @@ class Wrong(EachCall, CallCase):
         self.assertEqual(script_text(script), "send b p q\ntry\n  send a p q\nend\ntake b")
 
     def test_lists_within_tries_are_new(self):
-        # only the take is needed, but a try without which the end is another one stays as it is
         script = [("try", [("take", "a")]), ("send", "a", "p", "q")]
         self.assertEqual(shortened(script), script[1:])
         said = play(Desk(), [("send", "a", "p", "q"), ("lying",), ("try", [("lying",)])])
@@ -207,6 +206,8 @@ class ByCommands(unittest.TestCase):
                 if end_of(fewer) == end_of(script):
                     left = fewer
             self.assertEqual([shortened(script), end_of(left)], [left, end_of(script)])
+            # no try is ever needed
+            self.assertNotIn("try", [command[0] for command in left])
             lengths.add((len(script), len(left)))
         self.assertGreater(len(lengths), 15)
 
