@@ -27,10 +27,10 @@ class Plan:
         self._lasts = list(lasts)
 
     def __eq__(self, other):
-        if not isinstance(other, Plan):
-            return False
-        ends = self._firsts == other._firsts and self._lasts == other._lasts
-        return ends and self._pieces == other._pieces and self._ways == other._ways
+        return (
+            isinstance(other, Plan) and self._pieces == other._pieces and self._ways == other._ways
+            and self._firsts == other._firsts and self._lasts == other._lasts
+        )
 
     def pieces(self):
         """The dictionary from the names, ascending, to the runs of the pieces."""
